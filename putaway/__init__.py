@@ -1,0 +1,1 @@
+"""Put away and fetched: a row of work done with a few registers."""
