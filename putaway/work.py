@@ -1,4 +1,10 @@
-"""The calls on one work: its registers, its prices and its steps."""
+"""The calls on one work, and what is answered of each."""
+
+from putaway.far import far_plan
+from putaway.least import least_price
+from putaway.plans import judge
+from putaway.steps import NUMBER, SAY, TWO, Work, most_at_once, values_given
+from putaway.words import words_said
 
 FEWEST_REGISTERS = 2
 MOST_REGISTERS = 4
@@ -6,28 +12,20 @@ HIGHEST_PRICE = 9
 MOST_STEPS = 10
 OPERATIONS = 10
 
-# The calls' numbers; shows is the one that's left.
+# The calls' numbers.
 CALL_WORK = 0
 CALL_NUM = 1
 CALL_TWO = 2
 CALL_SAY = 3
+CALL_SHOWS = 4
+CALL_SAYS = 5
+CALL_MOST = 6
+CALL_LEAST = 7
+CALL_FAR = 8
+CALL_JUDGE = 9
 
-# At each call's number: how many numbers stand behind it. A call that has no place here is not known.
-LENGTHS = (4, 1, 3, 1, 0)
-
-# The sorts of steps, as shows tells them.
-NUMBER = 0
-TWO = 1
-SAY = 2
-
-
-class Work:
-    """The work that a line's calls are about. A step is a tuple: its sort, then its numbers."""
-
-    def __init__(self):
-        self.registers = 2
-        self.prices = [1, 1, 1]
-        self.steps = []
+# At each call's number: how many numbers stand behind it. Of judge it's the plan's count, which tells the rest.
+LENGTHS = (4, 1, 3, 1, 0, 0, 0, 0, 0, 1)
 
 
 def begin(work, registers, prices):
@@ -35,14 +33,11 @@ def begin(work, registers, prices):
     if registers < FEWEST_REGISTERS or registers > MOST_REGISTERS or max(prices) > HIGHEST_PRICE:
         return [-1]
     work.registers = registers
-    work.prices = prices
+    work.put_price = prices[0]
+    work.get_price = prices[1]
+    work.again_price = prices[2]
     work.steps = []
     return [registers]
-
-
-def values_given(work):
-    """How many values the steps give; they are numbered from 0, so this is the first that isn't given."""
-    return len([step for step in work.steps if step[0] != SAY])
 
 
 def put_behind(work, step):
@@ -61,23 +56,28 @@ def two(work, operation, first, second):
     """-4: there's no such operation; -2: a value isn't given by then."""
     if operation >= OPERATIONS:
         return [-4]
-    if max(first, second) >= values_given(work):
+    if max(first, second) >= values_given(work.steps):
         return [-2]
     return put_behind(work, (TWO, operation, first, second))
 
 
 def say(work, value):
     """-2: the value isn't given by then."""
-    if value >= values_given(work):
+    if value >= values_given(work.steps):
         return [-2]
     return put_behind(work, (SAY, value))
 
 
 def shows(work):
-    shown = [work.registers] + work.prices + [len(work.steps)]
+    shown = [work.registers, work.put_price, work.get_price, work.again_price, len(work.steps)]
     for step in work.steps:
         shown.extend(step)
     return shown
+
+
+def says(work):
+    words = words_said(work.steps)
+    return [len(words)] + words
 
 
 def answer(work, call, numbers):
@@ -89,7 +89,24 @@ def answer(work, call, numbers):
         return two(work, numbers[0], numbers[1], numbers[2])
     if call == CALL_SAY:
         return say(work, numbers[0])
-    return shows(work)
+    if call == CALL_SHOWS:
+        return shows(work)
+    if call == CALL_SAYS:
+        return says(work)
+    if call == CALL_MOST:
+        return [most_at_once(work.steps)]
+    if call == CALL_LEAST:
+        return [least_price(work)]
+    if call == CALL_FAR:
+        return far_plan(work)
+    return judge(work, numbers[1:])
+
+
+def end_of_call(calls, at):
+    behind = at + 1 + LENGTHS[calls[at]]
+    if calls[at] == CALL_JUDGE:
+        return behind + calls[at + 1]
+    return behind
 
 
 def answers(calls):
@@ -98,9 +115,8 @@ def answers(calls):
     told = []
     at = 0
     while at < len(calls):
-        call = calls[at]
-        behind = at + 1 + LENGTHS[call]
-        one = answer(work, call, calls[at + 1:behind])
+        behind = end_of_call(calls, at)
+        one = answer(work, calls[at], calls[at + 1:behind])
         told.append(len(one))
         told.extend(one)
         at = behind

@@ -25,6 +25,28 @@ def shows():
     return [4]
 
 
+def says():
+    return [5]
+
+
+def most():
+    return [6]
+
+
+def least():
+    return [7]
+
+
+def far():
+    return [8]
+
+
+def judge(*acts):
+    """Acts are handed in as pairs; a plan that isn't one of acts, as one row of its numbers."""
+    plan = joined(acts)
+    return [9, len(plan)] + plan
+
+
 def joined(rows):
     return [number for row in rows for number in row]
 
